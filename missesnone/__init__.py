@@ -1,0 +1,1 @@
+"""Missesnone: test suites that no faulty program of a class passes."""

@@ -1,0 +1,88 @@
+"""The form of the package: its files, their sizes and characters, and the names of the interface."""
+
+import ast
+import pathlib
+import re
+import unittest
+import warnings
+
+PACKAGE = pathlib.Path(__file__).resolve().parent.parent / "missesnone"
+
+INTERFACE = {
+    "errors": [
+        "MissError", "TextError", "Malformed", "Misplaced", "Unfit", "TooMany", "Unknown", "Repeated", "OtherFace",
+        "TooLarge", "TooLong", "WriteSame", "BadEdit", "BadTest", "TooManyEdits", "WorkshopFull", "SuiteMisses",
+        "UnknownEdit", "UnknownTest", "BrokenChain", "JournalError", "Changed", "Impossible",
+    ],
+    "programs": [
+        "Program", "cells", "row_at", "idle_row", "with_rows", "face", "position_of", "step", "run",
+    ],
+    "texts": ["parse_program", "format_program", "format_row"],
+    "orders": ["ranks", "ranked", "alike", "all_inputs"],
+}
+
+BARRED = {
+    "type", "typing", "typing_extensions", "enum", "Enum", "IntEnum", "StrEnum", "Flag", "IntFlag", "Generic",
+    "Protocol", "ABC", "ABCMeta", "namedtuple", "NamedTuple", "TypedDict", "TYPE_CHECKING", "abstractmethod",
+    "register", "mro", "elements", "open", "input", "law", "eval", "exec", "globals", "locals", "vars", "dir", "id",
+    "hash", "iter", "next", "print", "super", "frozenset", "chr", "float", "map", "filter", "round", "object",
+}
+
+
+def sources():
+    return {path.stem: path.read_text(encoding="utf-8") for path in sorted(PACKAGE.glob("*.py"))}
+
+
+def defined(source):
+    return [part.name for part in ast.parse(source).body if isinstance(part, (ast.FunctionDef, ast.ClassDef))]
+
+
+class Form(unittest.TestCase):
+    def test_the_folder_contains_python_files_only(self):
+        names = [path.name for path in PACKAGE.iterdir() if path.name != "__pycache__"]
+        self.assertIn("__init__.py", names)
+        for name in names:
+            self.assertTrue(re.fullmatch("[a-z0-9_]+[.]py", name), name)
+
+    def test_characters_and_sizes(self):
+        for name, source in sources().items():
+            with self.subTest(name):
+                self.assertTrue(all(sign == "\n" or " " <= sign <= "~" for sign in source))
+                self.assertLessEqual(len(source.split("\n")), 399)
+                self.assertLessEqual(max(len(line) for line in source.split("\n")), 120)
+                for node in ast.walk(ast.parse(source)):
+                    if isinstance(node, ast.FunctionDef):
+                        self.assertLessEqual(node.end_lineno - node.lineno + 1, 40, node.name)
+
+    def test_no_warnings(self):
+        with warnings.catch_warnings():
+            warnings.simplefilter("error")
+            for name, source in sources().items():
+                compile(source, name, "exec")
+
+    def test_imports(self):
+        files = sources()
+        for name, source in files.items():
+            for node in ast.walk(ast.parse(source)):
+                self.assertNotIsInstance(node, ast.Import)
+                if isinstance(node, ast.ImportFrom):
+                    package, _, module = node.module.partition(".")
+                    self.assertEqual((package, node.level), ("missesnone", 0))
+                    for each in node.names:
+                        self.assertIn(each.name, defined(files[module]))
+
+    def test_names(self):
+        for name, source in sources().items():
+            for node in ast.walk(ast.parse(source)):
+                for field in ("id", "name", "arg", "attr"):
+                    self.assertNotIn(getattr(node, field, None), BARRED, name)
+
+    def test_the_interface_is_defined_where_it_is_listed(self):
+        files = sources()
+        for name, listed in INTERFACE.items():
+            with self.subTest(name):
+                self.assertEqual([each for each in listed if each not in defined(files[name])], [])
+
+
+if __name__ == "__main__":
+    unittest.main()
