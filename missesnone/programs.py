@@ -1,6 +1,7 @@
 """Programs: their cells and rows, and how they run."""
 
 START = (0, ())
+MOST_WRITES = 4
 
 
 class Program:

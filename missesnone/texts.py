@@ -5,7 +5,7 @@ draft of one: only its names, ports and modes matter to them.
 """
 
 from missesnone.errors import Malformed, Misplaced, Repeated, TooMany, Unfit, Unknown
-from missesnone.programs import Program, candidate_count, cells, idle_row, row_at
+from missesnone.programs import MOST_WRITES, Program, candidate_count, cells, idle_row, row_at
 
 LETTERS = "abcdefghijklmnopqrstuvwxyz"
 DIGITS = "0123456789"
@@ -17,7 +17,6 @@ MOST_WORDS = 4
 MOST_PORTS = 3
 MOST_MODES = 16
 MOST_HELD = 3
-MOST_WRITES = 4
 
 
 class Draft:

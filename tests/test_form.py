@@ -19,7 +19,35 @@ INTERFACE = {
     ],
     "texts": ["parse_program", "format_program", "format_row"],
     "orders": ["ranks", "ranked", "alike", "all_inputs"],
+    "pairs": ["pair_of", "moves_at", "continued", "pair_after"],
+    "comparing": ["first_difference", "pairing", "is_pairing"],
+    "faults": ["slips", "faults", "faulty"],
+    "suites": ["catches", "verdicts", "suite", "missed"],
 }
+
+ARGUMENTS = {
+    "programs": {
+        "cells": "program", "row_at": "program, cell", "idle_row": "program, cell", "with_rows": "program, rows",
+        "face": "program", "position_of": "number, held", "step": "program, place, event", "run": "program, events",
+    },
+    "texts": {"parse_program": "text", "format_program": "program", "format_row": "program, cell, row"},
+    "orders": {"ranks": "numbers", "ranked": "events", "alike": "first, second", "all_inputs": "names, length"},
+    "pairs": {
+        "pair_of": "first, second, events", "moves_at": "names, pair", "continued": "first, second, events, move",
+        "pair_after": "first, second, pair, move",
+    },
+    "comparing": {
+        "first_difference": "first, second", "pairing": "first, second", "is_pairing": "first, second, pairs",
+    },
+    "faults": {"slips": "program, kinds", "faults": "program, kinds, two=False", "faulty": "program, fault"},
+    "suites": {
+        "catches": "program, fault, events", "verdicts": "program, faults", "suite": "program, faults",
+        "missed": "program, faults, tests",
+    },
+}
+
+# The only names that are imported from outside of the package.
+OUTSIDE = {"itertools": {"combinations"}}
 
 BARRED = {
     "type", "typing", "typing_extensions", "enum", "Enum", "IntEnum", "StrEnum", "Flag", "IntFlag", "Generic",
@@ -35,6 +63,10 @@ def sources():
 
 def defined(source):
     return [part.name for part in ast.parse(source).body if isinstance(part, (ast.FunctionDef, ast.ClassDef))]
+
+
+def constants(source):
+    return [part.targets[0].id for part in ast.parse(source).body if isinstance(part, ast.Assign)]
 
 
 class Form(unittest.TestCase):
@@ -65,11 +97,27 @@ class Form(unittest.TestCase):
         for name, source in files.items():
             for node in ast.walk(ast.parse(source)):
                 self.assertNotIsInstance(node, ast.Import)
-                if isinstance(node, ast.ImportFrom):
+                if isinstance(node, ast.ImportFrom) and node.module in OUTSIDE:
+                    self.assertLessEqual({each.name for each in node.names}, OUTSIDE[node.module])
+                elif isinstance(node, ast.ImportFrom):
                     package, _, module = node.module.partition(".")
                     self.assertEqual((package, node.level), ("missesnone", 0))
                     for each in node.names:
-                        self.assertIn(each.name, defined(files[module]))
+                        self.assertIn(each.name, defined(files[module]) + constants(files[module]), name)
+
+    def test_no_two_files_import_from_each_other(self):
+        files = sources()
+        above = {
+            name: {
+                node.module.partition(".")[2] for node in ast.walk(ast.parse(source))
+                if isinstance(node, ast.ImportFrom) and node.module not in OUTSIDE
+            }
+            for name, source in files.items()
+        }
+        while above:
+            free = [name for name in above if not above[name] & set(above)]
+            self.assertNotEqual(free, [], above)
+            above = {name: above[name] for name in above if name not in free}
 
     def test_names(self):
         for name, source in sources().items():
@@ -82,6 +130,14 @@ class Form(unittest.TestCase):
         for name, listed in INTERFACE.items():
             with self.subTest(name):
                 self.assertEqual([each for each in listed if each not in defined(files[name])], [])
+
+    def test_arguments(self):
+        files = sources()
+        for name, listed in ARGUMENTS.items():
+            parts = {part.name: part for part in ast.parse(files[name]).body if isinstance(part, ast.FunctionDef)}
+            for function, expected in listed.items():
+                with self.subTest(function):
+                    self.assertEqual(ast.unparse(parts[function].args), expected)
 
 
 if __name__ == "__main__":
