@@ -3,7 +3,7 @@
 from missesnone.errors import OtherFace, TooLarge
 from missesnone.pairs import FIRST_PAIR, continued, held_together, joined, moves_at, step_both
 from missesnone.programs import face
-from missesnone.values import is_integer, is_pair, is_sequence
+from missesnone.values import is_ascending, is_index, is_pair, is_sequence
 
 MOST_KEPT = 300
 
@@ -106,14 +106,10 @@ def is_joint_place(first, second, value):
 
 def is_place(program, value):
     """Return whether the value is a mode of the program with as many ascending integers."""
-    if not is_pair(value) or not is_integer(value[0]) or not is_sequence(value[1]):
+    if not is_pair(value) or not is_index(value[0], len(program.modes)):
         return False
     mode, held = value
-    if not 0 <= mode < len(program.modes) or len(held) != program.modes[mode][1]:
-        return False
-    if not all([is_integer(number) for number in held]):
-        return False
-    return list(held) == sorted(set(held))
+    return is_ascending(held) and len(held) == program.modes[mode][1]
 
 
 def in_tuples(pair):

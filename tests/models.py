@@ -3,10 +3,12 @@
 import itertools
 import random
 
+from missesnone.faults import slips
 from missesnone.programs import Program, cells, run, step
-from samples import as_tuples, shown
+from samples import as_tuples, ledger, shown
 
 SPARE = 10
+KINDS = ("next", "hold", "drop", "label", "value", "repeat")
 
 
 def candidates_at(program, cell):
@@ -45,6 +47,29 @@ def changed(program, seed, many=1):
     for at in chance.sample(range(len(rows)), many):
         rows[at] = (rows[at][0], random_row(chance, program, rows[at][0], 0.4))
     return Program(program.names, program.ports, program.modes, rows)
+
+
+def some_programs():
+    for seed in range(10):
+        yield random_program(seed, (0, 1, 2, 1), writes=0.5, many=6)
+    yield ledger()
+
+
+def few_faults(program):
+    return [(slip,) for slip in slips(program, KINDS)[:60]]
+
+
+def long_way():
+    """A program with 301 modes, one after the other, and faults that show at the first event, at the 300th, and not
+    within the limit."""
+    modes = [(f"m{at}", 0) for at in range(301)]
+    low = ((0, "low", 0),)
+    rows = [((at, 0, 0), (at + 1, (), low)) for at in range(300)]
+    program = Program(("put",), [("out", ("low", "high"))], modes, rows)
+    early = (((0, 0, 0), (1, (), ((0, "high", 0),))),)
+    late = (((299, 0, 0), (300, (), ((0, "high", 0),))),)
+    beyond = (((300, 0, 0), (300, (), ((0, "high", 0),))),)
+    return program, early, late, beyond
 
 
 def rank(number, numbers):

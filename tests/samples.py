@@ -91,3 +91,31 @@ def call(case, function, *passed):
     case.assertEqual(shown(list(passed)), before)
     case.assertEqual(list(passed), list(copies))
     return result
+
+
+def other_faces():
+    """Programs with other names, ports or labels than the example has."""
+    return [
+        parse_program(EXAMPLE.replace("put", "take")),
+        parse_program(EXAMPLE.replace("hear put", "hear put take")),
+        parse_program(EXAMPLE.replace("out", "log")),
+        parse_program(EXAMPLE.replace("low high", "high low")),
+        parse_program(EXAMPLE.replace("low high", "low high mid")),
+        parse_program(EXAMPLE.replace("mode a", "port log low\nmode a")),
+    ]
+
+
+def parts_replaced(value, fresh):
+    """The value with each of its parts, itself included, replaced in turn."""
+    yield fresh
+    if isinstance(value, (list, tuple)):
+        for at, part in enumerate(value):
+            for other in parts_replaced(part, fresh):
+                yield type(value)([*value[:at], other, *value[at + 1:]])
+
+
+def mixed(value, chance):
+    """The same value with lists or tuples, by chance."""
+    if isinstance(value, (list, tuple)):
+        return chance.choice((list, tuple))([mixed(part, chance) for part in value])
+    return value

@@ -13,7 +13,9 @@ from missesnone.texts import parse_program
 from models import (
     all_joint_places, changed, least_difference, plain_compare, plain_is_pairing, random_program,
 )
-from samples import EXAMPLE, LEDGER, as_lists, as_tuples, call, example, ledger, shown
+from samples import (
+    EXAMPLE, LEDGER, as_lists, as_tuples, call, example, ledger, mixed, other_faces, parts_replaced, shown,
+)
 
 HUGE = 10 ** 5000
 START_PAIR = ((0, ()), (0, ()))
@@ -72,18 +74,6 @@ def ledgers():
     lines = LEDGER.split("\n")
     for at in range(7, len(lines)):
         yield ledger(), parse_program("\n".join(lines[:at] + lines[at + 1:]))
-
-
-def other_faces():
-    """Programs with other names, ports or labels than the example has."""
-    return [
-        parse_program(EXAMPLE.replace("put", "take")),
-        parse_program(EXAMPLE.replace("hear put", "hear put take")),
-        parse_program(EXAMPLE.replace("out", "log")),
-        parse_program(EXAMPLE.replace("low high", "high low")),
-        parse_program(EXAMPLE.replace("low high", "low high mid")),
-        parse_program(EXAMPLE.replace("mode a", "port log low\nmode a")),
-    ]
 
 
 class FirstDifferences(unittest.TestCase):
@@ -305,22 +295,6 @@ class OtherFaces(unittest.TestCase):
         for function in (first_difference, pairing):
             with self.assertRaises(OtherFace):
                 function(program, other)
-
-
-def parts_replaced(value, fresh):
-    """The value with each of its parts, itself included, replaced in turn."""
-    yield fresh
-    if isinstance(value, (list, tuple)):
-        for at, part in enumerate(value):
-            for other in parts_replaced(part, fresh):
-                yield type(value)([*value[:at], other, *value[at + 1:]])
-
-
-def mixed(value, chance):
-    """The same value with lists or tuples, by chance."""
-    if isinstance(value, (list, tuple)):
-        return chance.choice((list, tuple))([mixed(part, chance) for part in value])
-    return value
 
 
 class Checking(unittest.TestCase):

@@ -23,6 +23,10 @@ INTERFACE = {
     "comparing": ["first_difference", "pairing", "is_pairing"],
     "faults": ["slips", "faults", "faulty"],
     "suites": ["catches", "verdicts", "suite", "missed"],
+    "papers": ["paper", "accepts"],
+    "fewest": ["fewest", "best"],
+    "cover": ["cover", "untouched", "goes_on"],
+    "workshops": ["Workshop", "blame", "clashes"],
 }
 
 ARGUMENTS = {
@@ -43,6 +47,21 @@ ARGUMENTS = {
     "suites": {
         "catches": "program, fault, events", "verdicts": "program, faults", "suite": "program, faults",
         "missed": "program, faults, tests",
+    },
+    "papers": {"paper": "program, faults, tests", "accepts": "program, faults, tests, value"},
+    "fewest": {"fewest": "program, faults, length", "best": "program, faults, length, budget"},
+    "cover": {"cover": "program", "untouched": "program, tests", "goes_on": "program, other, events"},
+    "workshops": {"blame": "workshop, number", "clashes": "workshop, first, second"},
+}
+
+# The methods and properties of each class, with their arguments.
+METHODS = {
+    ("programs", "Program"): {"__init__": "self, names, ports, modes, rows", "__eq__": "self, other"},
+    ("workshops", "Workshop"): {
+        "__init__": "self, base", "edit": "self, hand, cell, row", "test": "self, events, outputs",
+        "undo": "self, number", "redo": "self, number", "program": "self", "program_with": "self, numbers",
+        "verdicts": "self", "stale": "self", "edits": "self", "tests": "self", "events": "self", "base": "self",
+        "runs": "self", "in_force": "self", "size": "self",
     },
 }
 
@@ -138,6 +157,17 @@ class Form(unittest.TestCase):
             for function, expected in listed.items():
                 with self.subTest(function):
                     self.assertEqual(ast.unparse(parts[function].args), expected)
+
+    def test_methods_are_defined_in_their_classes(self):
+        files = sources()
+        for (name, listed), methods in METHODS.items():
+            for part in ast.parse(files[name]).body:
+                if isinstance(part, ast.ClassDef) and part.name == listed:
+                    found = {each.name: each for each in part.body if isinstance(each, ast.FunctionDef)}
+                    self.assertEqual({each: ast.unparse(found[each].args) for each in methods}, methods)
+                    break
+            else:
+                self.fail(listed)
 
 
 if __name__ == "__main__":

@@ -4,40 +4,16 @@ import unittest
 
 from missesnone.comparing import first_difference
 from missesnone.errors import TooLarge
-from missesnone.faults import faults, faulty, slips
+from missesnone.faults import faults, faulty
 from missesnone.orders import all_inputs
 from missesnone.programs import Program, run
 from missesnone.suites import catches, missed, suite, verdicts
-from models import plain_compare, random_program
-from samples import as_lists, as_tuples, call, example, ledger, shown
+from models import few_faults, long_way, plain_compare, some_programs
+from samples import as_lists, as_tuples, call, example, shown
 
 HUGE = 10 ** 5000
-KINDS = ("next", "hold", "drop", "label", "value", "repeat")
 PORTS = [("out", ("low", "high"))]
 DOWN, UP = [("put", 1), ("put", 0)], [("put", 0), ("put", 1)]
-
-
-def some_programs():
-    for seed in range(10):
-        yield random_program(seed, (0, 1, 2, 1), writes=0.5, many=6)
-    yield ledger()
-
-
-def few_faults(program):
-    return [(slip,) for slip in slips(program, KINDS)[:60]]
-
-
-def long_way():
-    """A program with 301 modes, one after the other, and faults that show at the first event, at no event, and not
-    within the limit."""
-    modes = [(f"m{at}", 0) for at in range(301)]
-    low = ((0, "low", 0),)
-    rows = [((at, 0, 0), (at + 1, (), low)) for at in range(300)]
-    program = Program(("put",), PORTS, modes, rows)
-    early = (((0, 0, 0), (1, (), ((0, "high", 0),))),)
-    late = (((299, 0, 0), (300, (), ((0, "high", 0),))),)
-    beyond = (((300, 0, 0), (300, (), ((0, "high", 0),))),)
-    return program, early, late, beyond
 
 
 class Catches(unittest.TestCase):
