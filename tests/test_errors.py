@@ -55,6 +55,33 @@ class Errors(unittest.TestCase):
             with self.subTest(name):
                 self.assertEqual([kind.__name__ for kind in getattr(errors, name).__bases__], [base])
 
+    def test_each_is_of_its_own_class_and_of_none_of_the_others(self):
+        above = {name: {name} for name in BASES}
+        for name in BASES:
+            base = BASES[name]
+            while base != "ValueError":
+                above[name].add(base)
+                base = BASES[base]
+        for name in BASES:
+            told = [7, "word"][:len(ATTRIBUTES.get(name, ()))]
+            error = getattr(errors, name)(*told)
+            self.assertIs(type(error), getattr(errors, name))
+            self.assertIsInstance(error, ValueError)
+            self.assertEqual({each for each in BASES if isinstance(error, getattr(errors, each))}, above[name])
+
+    def test_the_two_that_stand_above_others(self):
+        for name, below in [
+            ("TextError", {"Malformed", "Misplaced", "Unfit", "TooMany", "Unknown", "Repeated"}),
+            ("JournalError", {"Changed", "Impossible"}),
+        ]:
+            self.assertEqual({each.__name__ for each in getattr(errors, name).__subclasses__()}, below)
+        self.assertEqual({each.__name__ for each in errors.MissError.__subclasses__()}, {
+            name for name, base in BASES.items() if base == "MissError"})
+
+    def test_no_class_but_the_listed_ones(self):
+        found = [name for name, each in vars(errors).items() if isinstance(each, type) and issubclass(each, Exception)]
+        self.assertEqual(sorted(found), sorted(BASES))
+
     def test_attributes(self):
         for name, attributes in ATTRIBUTES.items():
             with self.subTest(name):

@@ -27,6 +27,10 @@ INTERFACE = {
     "fewest": ["fewest", "best"],
     "cover": ["cover", "untouched", "goes_on"],
     "workshops": ["Workshop", "blame", "clashes"],
+    "shrinking": ["shrunk", "endings"],
+    "claims": ["claim", "first_wrong"],
+    "chains": ["run_chain"],
+    "journals": ["journal", "replay"],
 }
 
 ARGUMENTS = {
@@ -52,6 +56,10 @@ ARGUMENTS = {
     "fewest": {"fewest": "program, faults, length", "best": "program, faults, length, budget"},
     "cover": {"cover": "program", "untouched": "program, tests", "goes_on": "program, other, events"},
     "workshops": {"blame": "workshop, number", "clashes": "workshop, first, second"},
+    "shrinking": {"shrunk": "first, second, events", "endings": "program, first, second"},
+    "claims": {"claim": "program, events", "first_wrong": "program, events, value"},
+    "chains": {"run_chain": "programs, ports, events"},
+    "journals": {"journal": "workshop", "replay": "base, text"},
 }
 
 # The methods and properties of each class, with their arguments.
