@@ -126,8 +126,10 @@ def read_test(base, parts):
         if not is_event_form(base, head):
             return None
         end = at + 3 + 3 * int(head[2])
+        if end > len(parts):
+            return None
         writes = [parts[start:start + 3] for start in range(at + 3, end, 3)]
-        if end > len(parts) or not all([is_due_form(base, write) for write in writes]):
+        if not all([is_due_form(base, write) for write in writes]):
             return None
         events.append((head[0], int(head[1])))
         outputs.append(tuple([(port, label, int(number)) for port, label, number in writes]))
@@ -145,11 +147,10 @@ def is_event_form(base, parts):
 
 
 def is_due_form(base, parts):
-    """Return whether the parts have the form `PORT LABEL INTEGER`, with a label of a port of the base."""
+    """Return whether three parts have the form `PORT LABEL INTEGER`, with a label of a port of the base."""
+    port, label, number = parts
     labels = dict(base.ports)
-    if len(parts) != 3 or parts[0] not in labels:
-        return False
-    return parts[1] in labels[parts[0]] and is_integer_form(parts[2])
+    return port in labels and label in labels[port] and is_integer_form(number)
 
 
 def is_integer_form(part):

@@ -118,7 +118,8 @@ class Chains(unittest.TestCase):
             for events in itertools.product([("put", 0), ("take", 1), ("put", 2)], repeat=4):
                 replaced += 1
                 self.assertEqual(
-                    run_chain([before, first, after], [0, 0], events), run_chain([before, second, after], [0, 0], events))
+                    run_chain([before, first, after], [0, 0], events),
+                    run_chain([before, second, after], [0, 0], events))
         self.assertGreater(replaced, 400)
 
     def test_returned_lists_are_new(self):

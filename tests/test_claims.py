@@ -2,6 +2,7 @@
 
 import random
 import unittest
+from unittest import mock
 
 from missesnone.claims import claim, first_wrong
 from missesnone.programs import run
@@ -87,7 +88,8 @@ class Wrong(unittest.TestCase):
         for step in [
             ("a", (2,), (("out", "low", 2),)), ("b", (), (("out", "low", 2),)), ("b", (5,), (("out", "low", 2),)),
             ("b", (2, 5), (("out", "low", 2),)), ("b", (2,), ()), ("b", (2,), (("out", "low", 5),)),
-            ("b", (2,), (("out", "high", 2),)), ("b", (2,), (("log", "low", 2),)), ("b", (2,), (("out", "low", 2),) * 2),
+            ("b", (2,), (("out", "high", 2),)), ("b", (2,), (("log", "low", 2),)),
+            ("b", (2,), (("out", "low", 2),) * 2),
             ("b", (2,), ("out", "low", 2)), ("b", (2,), (("out", "low", 2), ())), ("b", (2,), (("out", "low"),)),
             ("b", (2,), (("out", "low", 2, 2),)), ("b", (2,)), ("b", (2,), (("out", "low", 2),), ()), ("b",), (),
             (1, (2,), (("out", "low", 2),)), ("b", 2, (("out", "low", 2),)), ("B", (2,), (("out", "low", 2),)),
@@ -134,7 +136,7 @@ class Wrong(unittest.TestCase):
 
     def test_values_of_another_kind_anywhere(self):
         for fresh in (None, True, False, 0, 1.0, 2.0, -1, HUGE, "", "a", "b", "out", b"b", b"low", {}, {"b": 1}, set(),
-                      len, [], (), [None], ["b"], {0, 1}, range(2), 2j):
+                      mock.ANY, len, [], (), [None], ["b"], {0, 1}, range(2), 2j):
             for form in (list, as_lists, as_tuples):
                 for value in parts_replaced(form(RIGHT), fresh):
                     self.require(EVENTS, value, plain_first_wrong(example(), EVENTS, value))

@@ -7,8 +7,9 @@ from missesnone.cover import cover, goes_on, untouched
 from missesnone.errors import OtherFace
 from missesnone.orders import ranked
 from missesnone.programs import Program, cells, row_at, run, step, with_rows
+from missesnone.texts import parse_program
 from models import changed, plain_continued, random_program, ranked_inputs, some_programs
-from samples import EXAMPLE, as_lists, as_tuples, bare, call, example, ledger, other_faces, parse_program, shown
+from samples import EXAMPLE, as_lists, as_tuples, bare, call, example, ledger, other_faces, shown
 
 HUGE = 10 ** 5000
 PORTS = [("out", ("low", "high"))]

@@ -18,8 +18,9 @@ HIGH = ((0, "high", 0),)
 
 def caught_by(program, some, inputs):
     """For each input the set of the numbers of the faults that it catches."""
+    others = [faulty(program, fault) for fault in some]
     return [
-        {number for number, fault in enumerate(some) if run(faulty(program, fault), events)[1] != run(program, events)[1]}
+        {number for number, other in enumerate(others) if run(other, events)[1] != run(program, events)[1]}
         for events in inputs
     ]
 

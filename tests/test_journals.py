@@ -213,7 +213,8 @@ class Replays(unittest.TestCase):
         for at, checksum in enumerate(sums(STORY)):
             body = STORY[at]
             for line in (body, f"{body} ", f"{body} 0{checksum}", f"{body} +{checksum}", f"{body} {checksum} ",
-                         f"{body}  {checksum}", f"{body} {checksum + 65521}", f"{body} -{checksum}", f" {body} {checksum}",
+                         f"{body}  {checksum}", f"{body} {checksum + 65521}", f"{body} -{checksum}",
+                         f" {body} {checksum}",
                          f"{body} {checksum}.", f"{body} {checksum + 1}", f"{body} {checksum} {checksum}",
                          f"{body}{checksum}", f"{body} {checksum:x}x", f"{body} {checksum}\r", f"{body}\t{checksum}"):
                 changed = "\n".join([*lines[:at], line, *lines[at + 1:], ""])
@@ -237,7 +238,8 @@ class Replays(unittest.TestCase):
     def test_lines_without_a_form(self):
         fine = (LOUD, "undo 0")
         for body in [
-            "", "edit", "undo", "redo", "test", "Undo 0", "undo 0 0", "undo  0", "undo 0 ", " undo 0", "undo x", "undo +0",
+            "", "edit", "undo", "redo", "test", "Undo 0", "undo 0 0", "undo  0", "undo 0 ", " undo 0", "undo x",
+            "undo +0",
             "undo -1", "undo 0x0", "redo -0", "redo 1.0", "undo 00", "undo 01", "redo 007", "undo 10000", "redo 99999",
             "undo 0000", "redo 12345", "hear put", "at b put 0 go b hold 0", "edit at b put 0 go b hold 0",
             "edit 10 at b put 0 go b hold 0", "edit 00 at b put 0 go b hold 0", "edit -1 at b put 0 go b hold 0",
@@ -254,13 +256,15 @@ class Replays(unittest.TestCase):
             "test put", "test put 1", "test put 1 1", "test put 1 1 out", "test put 1 1 out low", "test put 1 0 0",
             "test put 1 1 out low 1 out low 1", "test put 1 2 out low 1", "test take 1 0", "test low 1 0",
             "test put 1 1 log low 1", "test put 1 1 out mid 1", "test put 1 1 out put 1", "test put 1 1 low out 1",
-            "test put x 0", "test put 1 x", "test put 1 -1", "test put 1 -0", "test put 1 00", "test put 1 01 out low 1",
+            "test put x 0", "test put 1 x", "test put 1 -1", "test put 1 -0", "test put 1 00",
+            "test put 1 01 out low 1",
             "test put 01 0", "test put 00 0", "test put -0 0", "test put -01 0", "test put +1 0", "test put - 0",
             "test put --1 0", "test put 1- 0", "test put 1 1 out low 01", "test put 1 1 out low -0",
             "test put 1 1 out low -", "test put 1 1 out low +1", "test  put 1 0", "test put  0", "test put 1 ",
             "test put 1 0  put 2 0", "test 0", "test 1 put 0", "test put 1 10000", "test put 1 00000",
             f"test put {LONGEST + 1} 0", f"test put -{LONGEST + 1} 0", f"test put 0{LONGEST} 0",
-            f"test put 1 1 out low {LONGEST + 1}", f"test put 1 1 out low -{LONGEST + 1}", "test put " + "9" * 6000 + " 0",
+            f"test put 1 1 out low {LONGEST + 1}", f"test put 1 1 out low -{LONGEST + 1}",
+            "test put " + "9" * 6000 + " 0",
         ]:
             self.refuse(example(), with_sums(body), Changed, 1)
             self.refuse(example(), with_sums(*fine, body), Changed, 3)
@@ -289,7 +293,9 @@ class Replays(unittest.TestCase):
 
     def test_numbers_of_4_and_of_5_digits(self):
         for word in ("undo", "redo"):
-            for number, error in [(1, Impossible), (999, Impossible), (9999, Impossible), (10000, Changed), (10 ** 9, Changed)]:
+            for number, error in [
+                (1, Impossible), (999, Impossible), (9999, Impossible), (10000, Changed), (10 ** 9, Changed),
+            ]:
                 self.refuse(example(), with_sums(f"{word} {number}"), error, 1)
                 self.refuse(example(), with_sums(LOUD, TESTED, f"{word} {number}"), error, 3)
         for many, error in [(5, Impossible), (9999, Impossible), (10000, Changed)]:
@@ -299,7 +305,8 @@ class Replays(unittest.TestCase):
 
     def test_entries_that_the_workshop_refuses(self):
         for bodies, line in [
-            (["undo 0"], 1), (["redo 0"], 1), ([LOUD, "redo 0"], 2), ([LOUD, "undo 1"], 2), ([LOUD, "undo 0", "undo 0"], 3),
+            (["undo 0"], 1), (["redo 0"], 1), ([LOUD, "redo 0"], 2), ([LOUD, "undo 1"], 2),
+            ([LOUD, "undo 0", "undo 0"], 3),
             ([LOUD, "undo 0", "redo 0", "redo 0"], 4), ([TESTED, "undo 0"], 2), ([LOUD, "undo 0", "redo 1"], 3),
             (["test put 1 5" + " out low 0" * 5], 1), ([LOUD, IDLE, "undo 2"], 3), (["undo 0", "undo 0"], 1),
             ([LOUD, "undo 1", "undo 2"], 2),
@@ -318,7 +325,9 @@ class Replays(unittest.TestCase):
         self.refuse(example(), with_sums(*[LOUD] * 120, "undo 00"), Changed, 121)
 
     def test_the_100th_and_the_101st_line(self):
-        for bodies in ([LOUD] * 100, [TESTED] * 100, [LOUD, *["undo 0", "redo 0"] * 50][:100], [*STORY] * 1 + [IDLE] * 95):
+        for bodies in (
+            [LOUD] * 100, [TESTED] * 100, [LOUD, *["undo 0", "redo 0"] * 50][:100], [*STORY, *[IDLE] * 95],
+        ):
             self.assertEqual(self.require(example(), with_sums(*bodies[:99]), plain_replay(
                 example(), with_sums(*bodies[:99]))).size, 99)
             full = self.require(example(), with_sums(*bodies), plain_replay(example(), with_sums(*bodies)))
@@ -340,7 +349,8 @@ class Replays(unittest.TestCase):
         for names, ports, line in [
             (("take",), [("out", ("low", "high"))], 1), (("take", "put"), [("out", ("low", "high"))], None),
             (("put",), [("log", ("low",))], 1), (("put",), [("out", ("high",))], 1),
-            (("put",), [("log", ("low",)), ("out", ("low",))], None), (("put",), [("log", ("low",)), ("out", ("high",))], 1),
+            (("put",), [("log", ("low",)), ("out", ("low",))], None),
+            (("put",), [("log", ("low",)), ("out", ("high",))], 1),
         ]:
             base = Program(names, ports, example().modes, [])
             if line is None:

@@ -151,7 +151,9 @@ class Papers(unittest.TestCase):
         refused = 0
         for program in some_programs():
             some = few_faults(program)[::6]
-            for tests in ([], all_inputs(program.names, 2), all_inputs(program.names, 3)[50:], suite(program, some)[::-1]):
+            for tests in (
+                [], all_inputs(program.names, 2), all_inputs(program.names, 3)[50:], suite(program, some)[::-1],
+            ):
                 expected = plain_paper(program, some, tests)
                 if isinstance(expected, list):
                     self.assertEqual(shown(paper(program, some, tests)), shown(expected))
@@ -313,8 +315,8 @@ class Checking(unittest.TestCase):
                 value = list(made)
                 at = chance.randrange(len(value))
                 value[at] = chance.choice([
-                    ("test", chance.randrange(len(tests) + 1)), chance.choice(made), ("same", pairing(program, program)),
-                    ("same", chance.sample(made, 1)[0][1]),
+                    ("test", chance.randrange(len(tests) + 1)), chance.choice(made),
+                    ("same", pairing(program, program)), ("same", chance.sample(made, 1)[0][1]),
                 ])
                 expected = plain_accepts(program, some, tests, value)
                 told.append(expected)

@@ -107,7 +107,8 @@ class Shrunk(unittest.TestCase):
             (0, (1, 0), (5, 5, 9, 0)), (1, (0, 0), (5, 0, 9, 9)), (2, (0, 1), (9, 5, 5, 7)), (2, (0, 1), (-HUGE, HUGE)),
         ]:
             other = with_rows(example(), [((1, 0, position), (1, (0,), LOW + LOW))])
-            self.require(example(), other, [("put", number) for number in heard], [("put", number) for number in numbers])
+            expected = [("put", number) for number in numbers]
+            self.require(example(), other, [("put", number) for number in heard], expected)
 
     def test_the_order_of_the_inputs_with_the_same_names(self):
         for many in range(1, 5):
@@ -115,7 +116,8 @@ class Shrunk(unittest.TestCase):
             self.assertEqual(all_with("a" * many), expected)
         self.assertEqual(len(all_with("ababa")), 541)
         # Of the inputs that show the difference, the first one has the last integer as the least.
-        program = Program(("a",), PORTS, [("m", 0), ("n", 0), ("o", 0)], [((0, 0, 0), (1, (), ())), ((1, 0, 0), (2, (), ()))])
+        program = Program(("a",), PORTS, [("m", 0), ("n", 0), ("o", 0)], [
+            ((0, 0, 0), (1, (), ())), ((1, 0, 0), (2, (), ()))])
         other = with_rows(program, [((2, 0, 0), (2, (), LOW))])
         self.require(program, other, [("a", 1), ("a", 2), ("a", 3)], [("a", 2), ("a", 1), ("a", 0)])
 

@@ -71,7 +71,8 @@ class FromATextToAJournal(unittest.TestCase):
             self.assertEqual(workshop.program(), faulty(program, fault))
             told = [not catches(program, fault, events) for events in tests[:40]]
             self.assertEqual(workshop.verdicts(), told)
-            self.assertEqual(all(told), number in harmless or not any(catches(program, fault, each) for each in tests[:40]))
+            if number in harmless or len(tests) <= 40:
+                self.assertEqual(all(told), number in harmless)
             if False in told:
                 at = told.index(False)
                 failing, passing = blame(workshop, at)
@@ -150,7 +151,8 @@ class FromATextToAJournal(unittest.TestCase):
     def test_a_chain_with_a_faulty_program(self):
         program = example()
         other = faulty(program, faults(program, ["label"])[0])
-        self.assertNotEqual(run_chain([program], [], [("put", 1), ("put", 0)]), run_chain([other], [], [("put", 1), ("put", 0)]))
+        events = [("put", 1), ("put", 0)]
+        self.assertNotEqual(run_chain([program], [], events), run_chain([other], [], events))
         ending = endings(program, [("put", 1)], [("put", 0)])[0][0]
         self.assertEqual(ending, ((("low", 0),),))
 

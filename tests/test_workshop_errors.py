@@ -1,6 +1,7 @@
 """Point 32: the errors of workshops."""
 
 import unittest
+from unittest import mock
 
 from missesnone.errors import BadEdit, BadTest, MissError, UnknownEdit, WorkshopFull
 from missesnone.programs import Program, cells, row_at
@@ -11,7 +12,7 @@ from workshop_models import snapshot
 HUGE = 10 ** 5000
 LOW = ((0, "low", 0),)
 OTHERS = (None, True, False, -1, HUGE, -HUGE, "", "0", "put", "out", "low", [], (), [0], (0,), [[]], {}, {0: 1}, set(),
-          b"", b"low", 0.0, 1.0, 1.5, object(), [None], [True])
+          b"", b"low", 0.0, 1.0, 1.5, mock.ANY, object(), [None], [True])
 
 
 def used():
@@ -106,7 +107,8 @@ class BadEdits(Errors):
     def test_candidates_held_of_other_kinds(self):
         workshop = used()
         self.take(workshop, "edit", 0, (2, 0, 2), (2, [0, 1], []))
-        for kept in (*OTHERS, "01", ("0", "1"), (False, True), (0, True), (0, 1.0), (None, None), ((0,), (1,)), (0, [1])):
+        for kept in (*OTHERS, "01", ("0", "1"), (False, True), (0, True), (0, 1.0), (None, None), ((0,), (1,)),
+                     (0, [1])):
             self.refuse(workshop, BadEdit, "edit", 0, (2, 0, 2), (2, kept, ()))
         for kept in ((False,), (True,), "0", ["0"], ((0,),), None, 0):
             self.refuse(workshop, BadEdit, "edit", 0, (2, 0, 2), (1, kept, ()))
@@ -123,13 +125,15 @@ class BadEdits(Errors):
             self.refuse(workshop, BadEdit, "edit", 0, (1, 0, 2), (0, (), writes))
 
     def test_each_write(self):
-        for cell, many in [((0, 0, 0), 1), ((1, 0, 0), 2), ((1, 0, 1), 1), ((2, 1, 4), 3), ((3, 0, 3), 3), ((3, 1, 0), 4)]:
+        for cell, many in [
+            ((0, 0, 0), 1), ((1, 0, 0), 2), ((1, 0, 1), 1), ((2, 1, 4), 3), ((3, 0, 3), 3), ((3, 1, 0), 4),
+        ]:
             workshop = used()
             for port in (-2, -1, 0, 1, 2, 3, True, False, None, "out", [0], 0.0, HUGE):
                 for label in ("low", "high", "put", "seen", "out", "", "lo", None, 0, ["low"], ("low",), b"low"):
                     for source in (-1, 0, 1, 2, 3, 4, True, False, None, "0", (0,), HUGE):
-                        right = shown(port) in ("0x0", "0x1") and label in (("low", "high", "put"), ("low", "seen"))[port]
-                        right = right and shown(source) in [hex(at) for at in range(many)]
+                        labels = {"0x0": ("low", "high", "put"), "0x1": ("low", "seen")}.get(shown(port), ())
+                        right = label in labels and shown(source) in [hex(at) for at in range(many)]
                         row = (0, (), ((port, label, source),))
                         if right:
                             self.take(workshop, "edit", 0, cell, row)
@@ -156,7 +160,8 @@ class BadEdits(Errors):
 
     def test_each_part_replaced(self):
         row = (1, (0,), ((0, "low", 0), (1, "seen", 1)))
-        for other in (None, True, False, -1, 4, 9, HUGE, "", "0", "out", {}, 0.0, b"low", object(), [True], [None]):
+        for other in (None, True, False, -1, 4, 9, HUGE, "", "0", "out", {}, 0.0, b"low", mock.ANY, object(), [True],
+                      [None]):
             for cell in parts_replaced((1, 0, 0), other):
                 self.refuse(used(), BadEdit, "edit", 0, cell, row)
             for value in parts_replaced(row, other):
@@ -178,7 +183,8 @@ class BadTests(Errors):
         for events in (*OTHERS, "put", ["put"], [("put",)], [("put", 1, 1)], [("put", 1), None], ("put", 1), [["put"]],
                        [("puts", 1)], [("pu", 1)], [("out", 1)], [("a", 1)], [("Put", 1)], [(1, "put")], [(None, 1)],
                        [(["put"], 1)], [(("put",), 1)], [(0, 1)], [(True, 1)], [(b"put", 1)], [("put", None)],
-                       [("put", "1")], [("put", True)], [("put", False)], [("put", 1.0)], [("put", [1])], [("put", (1,))],
+                       [("put", "1")], [("put", True)], [("put", False)], [("put", 1.0)], [("put", [1])],
+                       [("put", (1,))],
                        [{"put": 1, "take": 1}], [{"put", 1}], {("put", 1): None}, {("put", 1)}):
             for outputs in ([], [()], [(), ()], [(), (), ()]):
                 self.refuse(workshop, BadTest, "test", events, outputs)
@@ -192,7 +198,8 @@ class BadTests(Errors):
         workshop = used()
         events = [("put", 1), ("take", 2)]
         one = ("out", "low", 3)
-        for outputs in ([(), ()], ((), ()), [[], ()], [(one,), (one, one, one, one)], [[list(one)], [one, ["log", "seen", -3]]],
+        for outputs in ([(), ()], ((), ()), [[], ()], [(one,), (one, one, one, one)],
+                        [[list(one)], [one, ["log", "seen", -3]]],
                         [(("out", "put", 0),), (("log", "low", 1),)]):
             self.take(workshop, "test", events, outputs)
         for outputs in (*OTHERS, [()], [(), (), ()], "ab", [(), None], [None, ()], [(), "ab"], [(), 0], [True, ()],
@@ -206,8 +213,8 @@ class BadTests(Errors):
         for port in ("out", "log", "ou", "", "put", "low", None, 0, True, ["out"], ("out",), b"out"):
             for label in ("low", "high", "put", "seen", "lo", "", "out", None, 0, True, ["low"], b"low"):
                 for number in (0, 1, -1, True, False, None, "1", 1.0, [1], (1,), 10 ** 30):
-                    right = port in ("out", "log") and label in {"out": ("low", "high", "put"), "log": ("low", "seen")}[port]
-                    if right and shown(number) in ("0x0", "0x1", "-0x1"):
+                    labels = {"'out'": ("low", "high", "put"), "'log'": ("low", "seen")}.get(shown(port), ())
+                    if label in labels and shown(number) in ("0x0", "0x1", "-0x1"):
                         self.take(workshop, "test", [("put", 1)], [((port, label, number),)])
                     else:
                         with self.assertRaises(BadTest):
@@ -224,12 +231,14 @@ class BadTests(Errors):
             self.refuse(workshop, BadTest, "test", [("put", number)], [()])
             self.refuse(workshop, BadTest, "test", [("put", 0), ("take", number)], [(), ()])
             self.refuse(workshop, BadTest, "test", [("put", 0)], [(("out", "low", number),)])
-            self.refuse(workshop, BadTest, "test", [("put", 0), ("put", 1)], [(), (("out", "low", 1), ("out", "low", number))])
+            self.refuse(workshop, BadTest, "test", [("put", 0), ("put", 1)], [
+                (), (("out", "low", 1), ("out", "low", number))])
         self.assertEqual(len(workshop.verdicts()), 9)
 
     def test_each_part_replaced(self):
         events, outputs = (("put", 1), ("take", 2)), ((("out", "low", 1), ("log", "seen", 2)), (("log", "low", 3),))
-        for other in (None, True, False, HUGE, "", "0", "at", {}, 0.0, b"low", object(), [True], [None], (None,)):
+        for other in (None, True, False, HUGE, "", "0", "at", {}, 0.0, b"low", mock.ANY, object(), [True], [None],
+                      (None,)):
             for value in parts_replaced(events, other):
                 self.refuse(used(), BadTest, "test", value, outputs)
                 self.refuse(used(), BadTest, "test", as_lists(value), as_lists(outputs))
@@ -305,7 +314,8 @@ class Full(Errors):
     def test_100_edits_and_100_tests(self):
         edits, tests = Workshop(example()), Workshop(example())
         for number in range(100):
-            self.assertEqual(edits.edit(number % 10, (1, 0, 1), (1, (0,), ((0, ("low", "high")[number % 2], 0),))), number)
+            row = (1, (0,), ((0, ("low", "high")[number % 2], 0),))
+            self.assertEqual(edits.edit(number % 10, (1, 0, 1), row), number)
             self.assertEqual(tests.test([("put", number)], [()]), number)
         for workshop in (edits, tests):
             self.refuse(workshop, WorkshopFull, "edit", 0, (1, 0, 1), (1, (0,), ()))

@@ -324,7 +324,8 @@ class Runs(unittest.TestCase):
                 self.assertEqual(put(workshop, entry), expected)
                 plain.add(entry)
                 self.assertEqual(shown(workshop.program()), shown(plain.program()))
-                self.assertEqual(shown([workshop.in_force, workshop.size]), shown([plain.in_force(), len(plain.entries)]))
+                self.assertEqual(shown(workshop.in_force), shown(plain.in_force()))
+                self.assertEqual(shown(workshop.size), shown(len(plain.entries)))
                 for number, program in enumerate(plain.programs):
                     key = "never" if program is None else "stale" if plain.is_stale(number) else "fresh"
                     seen[key] += 1
